@@ -1,0 +1,1 @@
+"""Askedthen: answers as of two times, with papers."""
