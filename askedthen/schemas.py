@@ -18,7 +18,7 @@ def is_name(value):
 
 def are_unlike(names):
     """Whether no item of a list or tuple stands twice."""
-    return all(names.index(name) == place for place, name in enumerate(names))
+    return all([names.index(name) == place for place, name in enumerate(names)])
 
 
 def check_schema(schema):
@@ -75,4 +75,4 @@ def is_row(columns, row):
     """Whether this is a row of a table with these columns; as the row anything can be handed in."""
     if not isinstance(row, tuple) or len(row) != len(columns):
         return False
-    return all(kind_of(value) == column[1] for value, column in zip(row, columns))
+    return all([kind_of(value) == column[1] for value, column in zip(row, columns)])

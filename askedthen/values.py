@@ -1,7 +1,7 @@
 """Values, and the order of rows of values."""
 
-_MOST = 999999
-_LONGEST = 40
+MOST = 999999
+LONGEST = 40
 
 
 def is_number(value, most):
@@ -12,14 +12,14 @@ def is_number(value, most):
 
 def is_text(value):
     """Whether this is a text of at most 40 characters from the space to the tilde."""
-    if not isinstance(value, str) or len(value) > _LONGEST:
+    if not isinstance(value, str) or len(value) > LONGEST:
         return False
     return all(" " <= sign <= "~" for sign in value)
 
 
 def kind_of(value):
     """The kind of a value, "number" or "text", or None for anything else."""
-    if is_number(value, _MOST):
+    if is_number(value, MOST):
         return "number"
     if is_text(value):
         return "text"

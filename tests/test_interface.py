@@ -18,14 +18,23 @@ FUNCTIONS = {
               "points_of": "rows", "pieces": "points", "joined": "pairs"},
     "schemas": {"check_schema": "schema", "columns_of": "schema name", "is_row": "columns row",
                 "place_of": "columns name", "is_name": "value", "are_unlike": "names"},
+    "deeds": {"check_deed": "schema deed"},
+    "octets": {"is_key": "value", "key_octets": "key", "body": "values", "are_key_octets": "octets",
+               "range_of": "values", "range_of_text": "values beginning", "range_of_key": "key",
+               "first_bit": "one other", "has_bit": "octets number"},
+    "words": {"all_words": "text", "words_of": "text", "is_word": "value"},
+    "knowing": {"row_entries": "schema table row spans"},
 }
 CLASSES = {
     "errors": {"AskError": None, "InvalidArgument": "name", "BadQuestion": "reason",
                "BadPaper": "place", "BadWish": "place", "NoSuchDeed": "number", "Unknown": None,
                "TooManyDeeds": None},
+    "knowing": {"Knowledge": "schema"},
 }
-METHODS = {}
-MODULES = sorted(list(FUNCTIONS) + list(CLASSES))
+METHODS = {
+    ("knowing", "Knowledge"): {"apply": "deed", "days": "table row", "rows": "table", "entries": ""},
+}
+MODULES = sorted(set(FUNCTIONS) | set(CLASSES))
 
 
 def tree_of(module):
