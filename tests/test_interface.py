@@ -24,15 +24,23 @@ FUNCTIONS = {
                "first_bit": "one other", "has_bit": "octets number"},
     "words": {"all_words": "text", "words_of": "text", "is_word": "value"},
     "knowing": {"row_entries": "schema table row spans"},
+    "trees": {"put": "hasher tree key spans", "tree_of": "hasher rows", "entries": "tree first last",
+              "input_of": "tree", "state_input": "tree", "root": "hasher tree"},
+    "pruning": {"prune": "tree ranges", "prune_for": "tree keys"},
+    "papers": {"paper_of": "tree", "tree_of_paper": "hasher parts"},
 }
 CLASSES = {
     "errors": {"AskError": None, "InvalidArgument": "name", "BadQuestion": "reason",
                "BadPaper": "place", "BadWish": "place", "NoSuchDeed": "number", "Unknown": None,
                "TooManyDeeds": None},
     "knowing": {"Knowledge": "schema"},
+    "hashing": {"Hasher": "modulus multiplier"},
+    "trees": {"TreeSource": "tree"},
 }
 METHODS = {
     ("knowing", "Knowledge"): {"apply": "deed", "days": "table row", "rows": "table", "entries": ""},
+    ("hashing", "Hasher"): {"digest": "numbers"},
+    ("trees", "TreeSource"): {"entries": "first last"},
 }
 MODULES = sorted(set(FUNCTIONS) | set(CLASSES))
 
