@@ -28,6 +28,15 @@ FUNCTIONS = {
               "input_of": "tree", "state_input": "tree", "root": "hasher tree"},
     "pruning": {"prune": "tree ranges", "prune_for": "tree keys"},
     "papers": {"paper_of": "tree", "tree_of_paper": "hasher parts"},
+    "clashes": {"find_clash": "hasher tree paper"},
+    "rows": {"row_digest": "hasher digests", "inclusion": "hasher digests place",
+             "extension": "hasher digests size", "included_digest": "hasher size place digest paper",
+             "extended_digests": "hasher old size paper",
+             "find_row_clash": "hasher digests place digest paper",
+             "find_extension_clash": "hasher old new paper"},
+    "wishes": {"is_wish": "value", "fulfils": "text wish", "wish_ranges": "wish table column",
+               "found": "wish table column source"},
+    "wishtexts": {"parse_wish": "text", "show_wish": "wish"},
 }
 CLASSES = {
     "errors": {"AskError": None, "InvalidArgument": "name", "BadQuestion": "reason",
@@ -36,11 +45,13 @@ CLASSES = {
     "knowing": {"Knowledge": "schema"},
     "hashing": {"Hasher": "modulus multiplier"},
     "trees": {"TreeSource": "tree"},
+    "rows": {"DigestRow": "hasher"},
 }
 METHODS = {
     ("knowing", "Knowledge"): {"apply": "deed", "days": "table row", "rows": "table", "entries": ""},
     ("hashing", "Hasher"): {"digest": "numbers"},
     ("trees", "TreeSource"): {"entries": "first last"},
+    ("rows", "DigestRow"): {"append": "digest", "digest": "", "inclusion": "place", "extension": "size"},
 }
 MODULES = sorted(set(FUNCTIONS) | set(CLASSES))
 
