@@ -2,6 +2,7 @@
 
 MOST = 999999
 LONGEST = 40
+COMPARISONS = ("=", "<>", "<", ">")
 
 
 def is_number(value, most):
@@ -35,3 +36,19 @@ def order_of(row):
 def in_order(rows):
     """The list of rows in their order."""
     return sorted(rows, key=order_of)
+
+
+def compares(one, comparison, other):
+    """Whether a value is equal (=), unequal (<>), less (<) or greater (>) than another one."""
+    first = order_of((one,))
+    second = order_of((other,))
+    if comparison == "=":
+        return first == second
+    if comparison == "<>":
+        return first != second
+    return first < second if comparison == "<" else first > second
+
+
+def reduced(row, places):
+    """The row of the values of a row at these indices."""
+    return tuple([row[place] for place in places])

@@ -37,6 +37,13 @@ FUNCTIONS = {
     "wishes": {"is_wish": "value", "fulfils": "text wish", "wish_ranges": "wish table column",
                "found": "wish table column source"},
     "wishtexts": {"parse_wish": "text", "show_wish": "wish"},
+    "questions": {"columns": "question schema"},
+    "daily": {"meaning": "question schema tables"},
+    "relations": {"collected": "pairs", "picked": "relation place comparison value",
+                  "picked_same": "relation place other", "kept": "relation places",
+                  "united": "first second", "lessened": "first second", "counted": "relation places",
+                  "summed": "relation places place", "combined": "first second common others"},
+    "answering": {"answer": "question schema source", "needs": "question schema", "rows_on": "rows day"},
 }
 CLASSES = {
     "errors": {"AskError": None, "InvalidArgument": "name", "BadQuestion": "reason",

@@ -2,7 +2,7 @@ import itertools
 import random
 import unittest
 
-from askedthen.values import in_order, is_number, is_text, kind_of, order_of
+from askedthen.values import COMPARISONS, compares, in_order, is_number, is_text, kind_of, order_of, reduced
 from samples import ODD
 
 
@@ -103,6 +103,17 @@ class Order(unittest.TestCase):
         rows = [(1,), (2,)]
         in_order(rows).clear()
         self.assertEqual(rows, [(1,), (2,)])
+
+    def test_compares(self):
+        values = [0, 1, 9, 10, 5000000, "", " ", "0", "9", "A", "a", "aa"]
+        for (at, one), (place, other) in itertools.product(list(enumerate(values)), repeat=2):
+            told = [compares(one, comparison, other) for comparison in COMPARISONS]
+            self.assertEqual(told, [at == place, at != place, at < place, at > place])
+
+    def test_reduced(self):
+        self.assertEqual(reduced(("a", "b", 3), [2, 0]), (3, "a"))
+        self.assertEqual(reduced(("a", "b", 3), [1, 1]), ("b", "b"))
+        self.assertEqual((reduced(("a",), []), reduced((), ())), ((), ()))
 
     def test_equal_rows_all_stay(self):
         self.assertEqual(in_order([(1,), ("a",), (1,)]), [(1,), (1,), ("a",)])
