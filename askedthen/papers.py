@@ -30,6 +30,9 @@ def paper_of(tree):
 
 def tree_of_paper(hasher, parts):
     """The tree of a list of any values; raises BadPaper(place) if they are not a paper."""
+    # A paper can come from anybody, so it need not even be a list.
+    if not isinstance(parts, list):
+        raise BadPaper(0)
     for place, part in enumerate(parts):
         if not _is_valid(part):
             raise BadPaper(place)

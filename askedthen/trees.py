@@ -125,7 +125,11 @@ def _put_back(hasher, way, tree):
 
 def tree_of(hasher, rows):
     """The tree after putting each entry (key, spans) of a list into the empty tree, in order."""
-    tree = None
+    return put_all(hasher, None, rows)
+
+
+def put_all(hasher, tree, rows):
+    """The tree after putting each entry (key, spans) of a list into a tree, in order."""
     for key, spans in rows:
         tree = put(hasher, tree, key, spans)
     return tree

@@ -44,6 +44,9 @@ FUNCTIONS = {
                   "united": "first second", "lessened": "first second", "counted": "relation places",
                   "summed": "relation places place", "combined": "first second common others"},
     "answering": {"answer": "question schema source", "needs": "question schema", "rows_on": "rows day"},
+    "judging": {"fits": "schema key", "judge": "hasher schema digest question rows parts"},
+    "askers": {"digest_after": "hasher changes parts"},
+    "history": {"turns": "keeper schema question row day"},
 }
 CLASSES = {
     "errors": {"AskError": None, "InvalidArgument": "name", "BadQuestion": "reason",
@@ -53,12 +56,19 @@ CLASSES = {
     "hashing": {"Hasher": "modulus multiplier"},
     "trees": {"TreeSource": "tree"},
     "rows": {"DigestRow": "hasher"},
+    "askers": {"Asker": "hasher schema row size"},
+    "keepers": {"Keeper": "schema hasher"},
 }
 METHODS = {
     ("knowing", "Knowledge"): {"apply": "deed", "days": "table row", "rows": "table", "entries": ""},
     ("hashing", "Hasher"): {"digest": "numbers"},
     ("trees", "TreeSource"): {"entries": "first last"},
     ("rows", "DigestRow"): {"append": "digest", "digest": "", "inclusion": "place", "extension": "size"},
+    ("askers", "Asker"): {"learn": "row size paper", "takes_state": "number digest paper",
+                          "takes": "question rows parts state", "takes_change": "before after changes parts"},
+    ("keepers", "Keeper"): {"record": "deed", "deeds": "", "days": "table row", "tree": "number",
+                            "digest": "number", "ask": "question number", "changes": "number",
+                            "row_digest": "", "inclusion": "number", "extension": "number"},
 }
 MODULES = sorted(set(FUNCTIONS) | set(CLASSES))
 
